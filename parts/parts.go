@@ -1,4 +1,4 @@
-// Package parts reads bytes part by part: the first part that can't be read gives up by panic, and Read, which began it, tells its error.
+// Package parts reads and writes bytes part by part. Of a reader the first part that can't be read gives up by panic, and Read, which began it, tells its error.
 package parts
 
 import (
@@ -51,13 +51,19 @@ func (r *Reader) Next(x byte) bool {
 	return len(r.left) > 0 && r.left[0] == x
 }
 
+// Left is how many bytes are not read yet.
+func (r *Reader) Left() int {
+	return len(r.left)
+}
+
+// End gives up, unless all is read.
+func (r *Reader) End() {
+	r.Need(len(r.left) == 0, api.ErrTrail)
+}
+
 // Number is that of the next bytes, the lowest first.
 func (r *Reader) Number(width int) uint64 {
-	var n uint64
-	for i, x := range r.Take(width) {
-		n |= uint64(x) << (8 * i)
-	}
-	return n
+	return Number(r.Take(width))
 }
 
 // Hash is that of the next 32 bytes.
@@ -93,4 +99,30 @@ func Part[T any](r *Reader, most int, decode func([]byte) (T, []byte, api.Errno)
 	r.Need(e == api.OK, e)
 	r.left = r.left[len(shown)-len(behind):]
 	return part
+}
+
+// Number is that of bytes, the lowest first.
+func Number(b []byte) uint64 {
+	var n uint64
+	for i, x := range b {
+		n |= uint64(x) << (8 * i)
+	}
+	return n
+}
+
+// PutNumber puts a number's bytes, the lowest first.
+func PutNumber(b []byte, n uint64, width int) []byte {
+	for i := range width {
+		b = append(b, byte(n>>(8*i)))
+	}
+	return b
+}
+
+// PutList puts a count, and as many parts.
+func PutList[T any](b []byte, list []T, put func([]byte, T) []byte) []byte {
+	b = append(b, size.Encode(uint64(len(list)))...)
+	for _, x := range list {
+		b = put(b, x)
+	}
+	return b
 }

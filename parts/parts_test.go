@@ -50,6 +50,36 @@ func TestNumber(t *testing.T) {
 	wantUp(t, "of nothing", nil, number(1), api.ErrShort)
 }
 
+// Number of bytes, and PutNumber, are there and back; what stands ahead stays.
+func TestPutNumber(t *testing.T) {
+	const n = 0x8877665544332211
+	for width := range 9 {
+		b := parts.PutNumber([]byte{5}, n, width)
+		want := append([]byte{5}, "\x11\x22\x33\x44\x55\x66\x77\x88"[:width]...)
+		if !bytes.Equal(b, want) {
+			t.Errorf("of %d bytes: %x", width, b)
+		}
+		if got := parts.Number(b[1:]); got != n&(1<<(8*width)-1) {
+			t.Errorf("of %d bytes: %x", width, got)
+		}
+	}
+}
+
+func TestPutList(t *testing.T) {
+	put := func(b []byte, x int) []byte { return append(b, byte(x), 9) }
+	for _, x := range []struct {
+		list []int
+		want string
+	}{{nil, "\x05\x00"}, {[]int{}, "\x05\x00"}, {[]int{7}, "\x05\x01\x07\x09"}, {[]int{7, 8}, "\x05\x02\x07\x09\x08\x09"}} {
+		if b := parts.PutList([]byte{5}, x.list, put); string(b) != x.want {
+			t.Errorf("%v: %x", x.list, b)
+		}
+	}
+	if b := parts.PutList(nil, make([]int, 0xfd), put); string(b[:4]) != "\xfd\xfd\x00\x00" || len(b) != 3+2*0xfd {
+		t.Errorf("a count of three bytes: %x", b)
+	}
+}
+
 func TestHash(t *testing.T) {
 	hash := func(r *parts.Reader) api.Hash { return r.Hash() }
 	wantRead(t, "hash", sample(40), hash, api.Hash(sample(32)), 8)
@@ -61,6 +91,26 @@ func TestNext(t *testing.T) {
 	wantRead(t, "it", []byte{5, 6}, next, true, 2)
 	wantRead(t, "another one", []byte{6, 5}, next, false, 2)
 	wantRead(t, "nothing", nil, next, false, 0)
+}
+
+func TestLeft(t *testing.T) {
+	left := func(r *parts.Reader) int {
+		r.Take(2)
+		return r.Left()
+	}
+	wantRead(t, "some", sample(5), left, 3, 3)
+	wantRead(t, "none", sample(2), left, 0, 0)
+}
+
+func TestEnd(t *testing.T) {
+	end := func(r *parts.Reader) byte {
+		x := r.Take(1)[0]
+		r.End()
+		return x
+	}
+	wantRead(t, "it", []byte{7}, end, 7, 0)
+	wantUp(t, "a byte behind", []byte{7, 8}, end, api.ErrTrail)
+	wantUp(t, "cut short", nil, end, api.ErrShort)
 }
 
 func TestNeed(t *testing.T) {
