@@ -2,6 +2,7 @@ package model
 
 import (
 	"sporran/api"
+	"sporran/copies"
 	"sporran/filter"
 	"sporran/header"
 	"sporran/tx"
@@ -17,7 +18,7 @@ type place struct {
 
 // add keeps a block that the tree has, and what is told of it.
 func (s *state) add(b api.Block, l ledger) api.Errno {
-	b = copied(b)
+	b = copies.Block(b)
 	id := header.ID(b.Header)
 	f, e := filter.Build(id, filter.Items(b, s.spent(b, id, l)))
 	if e != api.OK {

@@ -4,6 +4,7 @@ import (
 	"bytes"
 
 	"sporran/api"
+	"sporran/copies"
 	"sporran/filter"
 )
 
@@ -105,7 +106,7 @@ func (q bodiesAsked) answers(s *state) []api.Message {
 	var l []api.Message
 	for _, id := range q {
 		if k, ok := s.blocks[id]; ok {
-			l = append(l, api.Message{Kind: api.MsgBlock, Block: copied(k.block)})
+			l = append(l, api.Message{Kind: api.MsgBlock, Block: copies.Block(k.block)})
 		} else {
 			l = append(l, api.Message{Kind: api.MsgNotFound, Hashes: []api.Hash{id}})
 		}
