@@ -241,6 +241,22 @@ func TestBodiesOfLiars(t *testing.T) {
 	}
 }
 
+// P2 speaks of the block that made a coin alone: where nobody is honest, one that spends it may have come, and be passed.
+func TestBodiesPassed(t *testing.T) {
+	r := start(t, a1, a2, a3)
+	r.does(watch(mineOne))
+	r.hello(1)
+	r.serves(1, 7) // up to a2's body
+	r.wantAt("a2", api.StateBlocks, a2, coin(payA2, 0, 2))
+	r.does(lose(1), inject(1, sumsTold(id(a3), empty)), lose(1), inject(1, filterTold(id(a3), empty)), inject(1, bodyTold(a3)))
+	r.wantAt("a3", api.StateSynced, a3, coin(payA2, 0, 2))
+	way, watched, coins := []api.Header{g.Header, a1.Header, a2.Header, a3.Header}, [][]byte{mineOne}, r.Client().Coins()
+	wantBodies(t, "came", r.Bodies(), a2, a3)
+	if !audit.Own(way, r.Bodies()[:1], watched, coins) || audit.Own(way, r.Bodies(), watched, coins) {
+		t.Error("own")
+	}
+}
+
 // P3: a script of steps, cut off by a fuse at each place, with each count of bytes kept: it opens with the state behind the last batch that was synced, or behind the one that was on its way.
 func TestCrashes(t *testing.T) {
 	whole := start(t, a1, a2, a3, b2, b3, b4, b5)
